@@ -1,0 +1,79 @@
+"""What the tests share: the calls by name, and a run that gives each call's answer by itself."""
+
+import unittest
+
+from searchlegs.search import answers
+
+HIGHEST = 4294967295
+
+
+def start(x, y, wide, high):
+    return [0, x, y, wide, high]
+
+
+def craft(speed, see, hours):
+    return [1, speed, see, hours]
+
+
+def area(x, y, wide, high):
+    return [2, x, y, wide, high]
+
+
+def drop(k):
+    return [3, k]
+
+
+def take():
+    return [4]
+
+
+def hours(n):
+    return [5, n]
+
+
+def alone(k, way):
+    return [6, k, way]
+
+
+def soonest():
+    return [7]
+
+
+def by(way, t):
+    return [8, way, t]
+
+
+def plan():
+    return [9]
+
+
+def legs(k):
+    return [10, k]
+
+
+def run(*calls):
+    """The answers, a list each, to the calls on one new object."""
+    handed = [number for call in calls for number in call]
+    told = answers(list(handed))
+    split = []
+    at = 0
+    while at < len(told):
+        end = at + 1 + told[at]
+        split.append(told[at + 1:end])
+        at = end
+    if at != len(told) or len(split) != len(calls):
+        raise AssertionError(f"{len(calls)} calls, answered {told}")
+    return split
+
+
+class CallsCase(unittest.TestCase):
+    def last(self, *calls):
+        """The answer to the last of the calls."""
+        return run(*calls)[-1]
+
+    def refused(self, code, before, call, looks):
+        """The call, made behind those before, answers the code alone, and the looks answer as without it."""
+        looks = list(looks)
+        told = run(*before, call, *looks)
+        self.assertEqual(told[len(before)], [code], (before, call))
+        self.assertEqual(told[len(before) + 1:], run(*before, *looks)[len(before):], (before, call))

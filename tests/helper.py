@@ -51,6 +51,58 @@ def legs(k):
     return [10, k]
 
 
+def leg(k, i):
+    return [11, k, i]
+
+
+def where(k):
+    return [12, k]
+
+
+def when(x, y):
+    return [13, x, y]
+
+
+def seen(x, y):
+    return [14, x, y]
+
+
+def most(k, way, t):
+    return [15, k, way, t]
+
+
+def look(k):
+    return [16, k]
+
+
+def size():
+    return [17]
+
+
+def ends():
+    return [18]
+
+
+def back():
+    return [19]
+
+
+def again():
+    return [20]
+
+
+def state():
+    return [21]
+
+
+# What there is, asked for without changing it; the last of these also tells the changes.
+QUESTIONS = tuple(
+    [size(), plan(), ends(), soonest()]
+    + [call for k in range(4) for call in (look(k), legs(k), leg(k, 0), where(k))]
+    + [state()]
+)
+
+
 def run(*calls):
     """The answers, a list each, to the calls on one new object."""
     handed = [number for call in calls for number in call]
@@ -73,7 +125,8 @@ class CallsCase(unittest.TestCase):
 
     def refused(self, code, before, call, looks):
         """The call, made behind those before, answers the code alone, and the looks answer as without it."""
-        looks = list(looks)
+        # Taken back and done again behind the questions, a change that was kept or lost would show.
+        looks = [*QUESTIONS, again(), *QUESTIONS, back(), back(), *QUESTIONS, again(), again(), *QUESTIONS, *looks]
         told = run(*before, call, *looks)
         self.assertEqual(told[len(before)], [code], (before, call))
         self.assertEqual(told[len(before) + 1:], run(*before, *looks)[len(before):], (before, call))
